@@ -1,0 +1,1 @@
+"""Neverwait: letters that are handed on at every beat."""
