@@ -48,4 +48,17 @@ def behind(net, homes, stand, handing):
     """The stand behind a handing: who came home is not under way any more."""
     if wrong(net, homes, stand, handing) is not None:
         raise NoHanding("this is no handing of the stand")
+    return stand_behind(homes, handing)
+
+
+def stand_behind(homes, handing):
+    """Where the letters stand behind what was handed on, or waited."""
     return tuple([None if goes == home else goes for home, goes in zip(homes, handing)])
+
+
+def taker(stand, handing, house, goes):
+    """The letter that goes from the one house to the other; None where there is none."""
+    for letter in range(len(stand)):
+        if stand[letter] == house and handing[letter] == goes:
+            return letter
+    return None

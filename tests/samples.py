@@ -3,6 +3,7 @@
 from itertools import product
 
 from neverwait.nets import Net
+from neverwait.rules import Elder, Farthest, InTurn, Nearest, Ranked, Turns
 from neverwait.shapes import box_net, pairs_net, ring_net, words_net
 
 
@@ -55,6 +56,34 @@ def small_nets():
     return [net for net in sample_nets() if net.many() <= 5]
 
 
+def all_sides():
+    """All sides of boxes, reckoned from point 6."""
+    found = []
+    for length in range(1, 6):
+        for sides in product(range(2, 9), repeat=length):
+            houses = 1
+            for side in sides:
+                houses *= side
+            if houses <= 32:
+                found.append((sides, houses))
+    return found
+
+
+def wrong_sides():
+    """Things that are not the sides of a box, some of them just beyond point 6."""
+    beyond = [(), (1,), (9,), (2, 1), (2, 9), (3, 11), (7, 5), (4, 9), (2, 2, 2, 2, 3), (0,), (-2,), (-2, -2),
+              (2, 2, 2, 2, 2, 2), (2, 2, 2, 2, 2, 1), (6, 6), (8, 8), (10 ** 59, 2)]
+    others = [[2, 2], (True, 2), (2, True), (2, None), (2, "2"), ((2, 2),), 2, "22", {2: 2}, b"22"]
+    within = [sides for thing in odd_things() for sides in (thing, (thing,), (2, thing), (thing, 2))]
+    return beyond + others + within
+
+
+def all_places(sides):
+    """The places of a box, by the numbers of their houses."""
+    # product has the last number change fastest, the numbers of houses the first one.
+    return [place[::-1] for place in product(*[range(side) for side in sides[::-1]])]
+
+
 def all_homes(net, letters):
     return list(product(range(net.many()), repeat=letters))
 
@@ -77,3 +106,24 @@ def handings_of(net, stand):
     return [row for row in product(*choices)
             if not any(stand[j] is not None and stand[j] == stand[i] and row[j] == row[i]
                        for i in range(len(row)) for j in range(i))]
+
+
+def eager_rules(letters):
+    """The rules that hand on eagerly, ranked by ranks that turn the letters round."""
+    return [Elder(), Nearest(), Farthest(), Turns(), Ranked(tuple(range(letters, 0, -1)))]
+
+
+def all_rules(letters):
+    return eager_rules(letters) + [InTurn()]
+
+
+def random_letters(net, letters, chance):
+    """Homes and a stand of so many letters, by a told chance; some are not under way."""
+    homes, stand = [], []
+    for at in range(letters):
+        home = chance.randrange(net.many())
+        free = [house for house in range(net.many())
+                if house != home and stand.count(house) < len(net.out(house))]
+        homes.append(home)
+        stand.append(chance.choice(free) if free and chance.random() < 0.9 else None)
+    return tuple(homes), tuple(stand)

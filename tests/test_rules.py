@@ -3,16 +3,12 @@ import unittest
 from neverwait.errors import NoRanks
 from neverwait.rules import Elder, Farthest, InTurn, Nearest, Ranked, Rule, Turns
 from neverwait.shapes import ring_net
-from tests.samples import mixed_net, odd_things
+from tests.samples import all_rules, mixed_net, odd_things
 
 RING = ring_net(8)
 HOMES = (4, 3, 2, 1, 2, 7)
 STAND = (0, 0, None, 3, 5, 4)
 # How far home: 4, 3, not under way, 2, 3, 3.
-
-
-def all_rules(letters):
-    return [Elder(), Nearest(), Farthest(), Turns(), InTurn(), Ranked((7,) * letters)]
 
 
 class Classes(unittest.TestCase):

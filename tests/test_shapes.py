@@ -1,27 +1,14 @@
 import unittest
-from itertools import product
 
 from neverwait.errors import NoNet, NoShape, NoTie
 from neverwait.nets import Net
 from neverwait.shapes import box_net, pairs_net, ring_net, without, words_net
-from tests.samples import Hostile, complete_net, mixed_net, odd_numbers, odd_things, one_way_ring
+from tests.samples import (Hostile, all_places, all_sides, complete_net, mixed_net, odd_numbers, odd_things,
+                           one_way_ring, wrong_sides)
 
 
 def two_way(pairs):
     return sorted([(one, other) for one, other in pairs] + [(other, one) for one, other in pairs])
-
-
-def all_sides():
-    """All sides of boxes, reckoned from point 6."""
-    found = []
-    for length in range(1, 6):
-        for sides in product(range(2, 9), repeat=length):
-            houses = 1
-            for side in sides:
-                houses *= side
-            if houses <= 32:
-                found.append((sides, houses))
-    return found
 
 
 class Boxes(unittest.TestCase):
@@ -42,26 +29,15 @@ class Boxes(unittest.TestCase):
         for sides, houses in all_sides():
             net = box_net(sides)
             self.assertEqual(net.many(), houses)
-            # product has the last place change fastest, the numbers of houses the first one.
-            places = [place[::-1] for place in product(*[range(side) for side in sides[::-1]])]
+            places = all_places(sides)
             ties = [(one, other) for one in range(houses) for other in range(houses)
                     if sum(abs(x - y) for x, y in zip(places[one], places[other])) == 1]
             self.assertEqual(net.ties(), ties)
 
-    def test_just_beyond(self):
-        for sides in ((), (1,), (9,), (2, 1), (2, 9), (3, 11), (7, 5), (4, 9), (2, 2, 2, 2, 3), (0,), (-2,),
-                      (-2, -2), (2, 2, 2, 2, 2, 2), (2, 2, 2, 2, 2, 1), (6, 6), (8, 8), (10 ** 59, 2)):
+    def test_just_beyond_and_other_kinds(self):
+        for sides in wrong_sides():
             with self.assertRaises(NoShape):
                 box_net(sides)
-
-    def test_other_kinds(self):
-        for sides in ([2, 2], (True, 2), (2, True), (2, None), (2, "2"), ((2, 2),), 2, "22", {2: 2}, b"22"):
-            with self.assertRaises(NoShape):
-                box_net(sides)
-        for thing in odd_things():
-            for sides in (thing, (thing,), (2, thing), (thing, 2)):
-                with self.assertRaises(NoShape):
-                    box_net(sides)
 
 
 class Rings(unittest.TestCase):
