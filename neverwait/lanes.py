@@ -97,6 +97,11 @@ def keep_to_lane(came, letters, free, goes):
             free.remove(goes[letter])
 
 
+def came_behind(homes, stand, handing):
+    """By what the letters came that are under way behind a handing."""
+    return tuple([None if goes in (None, home) else house for home, house, goes in zip(homes, stand, handing)])
+
+
 def reason(box, homes, stand, came, letter):
     """The letter for which a letter is led about by lanes; None where it is not."""
     handing = lane_hand(box, homes, stand, came)

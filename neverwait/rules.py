@@ -8,6 +8,9 @@ from neverwait.stands import under_way
 class Rule:
     """What all rules have; only the ones below are made."""
 
+    def check_letters(self, homes):
+        """Refuse letters that the rule can't put in an order; there are none, but by ranks."""
+
     def order(self, net, homes, stand, beat):
         """The letters under way, by number."""
         return under_way(stand)
@@ -61,8 +64,12 @@ class Ranked(Rule):
             raise NoRanks("the ranks are no tuple of whole numbers")
         self.ranks = ranks
 
-    def order(self, net, homes, stand, beat):
-        """The letters under way, the least rank first."""
+    def check_letters(self, homes):
+        """Refuse letters that are not as many as the ranks."""
         if len(self.ranks) != len(homes):
             raise NoRanks("there are not as many ranks as letters")
+
+    def order(self, net, homes, stand, beat):
+        """The letters under way, the least rank first."""
+        self.check_letters(homes)
         return sorted(under_way(stand), key=lambda letter: self.ranks[letter])

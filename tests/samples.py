@@ -2,6 +2,7 @@
 
 from itertools import product
 
+from neverwait.handing import hand
 from neverwait.nets import Net
 from neverwait.rules import Elder, Farthest, InTurn, Nearest, Ranked, Turns
 from neverwait.shapes import box_net, pairs_net, ring_net, words_net
@@ -93,7 +94,7 @@ def all_rows(net, letters):
     return list(product([None] + list(range(net.many())), repeat=letters))
 
 
-def stands_of(net, homes):
+def all_stands(net, homes):
     """All stands, reckoned from point 8 alone."""
     return [row for row in all_rows(net, len(homes))
             if not any(house == home for house, home in zip(row, homes))
@@ -118,12 +119,82 @@ def all_rules(letters):
 
 
 def random_letters(net, letters, chance):
-    """Homes and a stand of so many letters, by a told chance; some are not under way."""
+    """Homes and a stand of so many letters, by a told chance; some are not under way, several have one home."""
+    aims = chance.sample(range(net.many()), chance.randint(1, net.many()))
     homes, stand = [], []
     for at in range(letters):
-        home = chance.randrange(net.many())
+        home = chance.choice(aims)
         free = [house for house in range(net.many())
                 if house != home and stand.count(house) < len(net.out(house))]
         homes.append(home)
         stand.append(chance.choice(free) if free and chance.random() < 0.9 else None)
     return tuple(homes), tuple(stand)
+
+
+def random_tree(many, chance):
+    return pairs_net(many, [(house, chance.randrange(house)) for house in range(1, many)])
+
+
+def stand_behind(homes, handing):
+    """Point 8, also of a waiting log."""
+    return tuple(None if goes is None or goes == home else goes for home, goes in zip(homes, handing))
+
+
+def let_in_log(rule, net, homes, starts, chance):
+    """Stands and a log by a rule; each letter is let in at some beat, by a told chance."""
+    letters = range(len(homes))
+    coming = [letter for letter in letters if starts[letter] is not None]
+    stand = (None,) * len(homes)
+    stands, log = [], []
+    while coming or any(house is not None for house in stand):
+        for letter in chance.sample(coming, len(coming)):
+            start = starts[letter]
+            if stand.count(start) < len(net.out(start)) and chance.random() < 0.4:
+                stand = stand[:letter] + (start,) + stand[letter + 1:]
+                coming.remove(letter)
+        stands.append(stand)
+        log.append(hand(rule, net, homes, stand, len(log)))
+        stand = stand_behind(homes, log[-1])
+    return stands + [stand], log
+
+
+def waiting_log(box, homes, stand):
+    """Stands and a log by point 21, until all are home."""
+    stands, log = [stand], []
+    while any(house is not None for house in stand):
+        taken = {}
+        for letter, house in enumerate(stand):
+            if house is not None:
+                taken.setdefault((house, box.wish(house, homes[letter])), letter)
+        goes = {letter: wish for (house, wish), letter in taken.items()}
+        log.append(tuple(goes.get(letter, house) for letter, house in enumerate(stand)))
+        stand = stand_behind(homes, log[-1])
+        stands.append(stand)
+    return stands, log
+
+
+def crowded_letters(net, letters, chance):
+    """Homes and a stand of letters all under way, any number of them at a house."""
+    aims = chance.sample(range(net.many()), chance.randint(1, net.many()))
+    homes = tuple(chance.choice(aims) for at in range(letters))
+    starts = chance.sample(range(net.many()), 2)
+    return homes, tuple(chance.choice([start for start in starts if start != home]) for home in homes)
+
+
+def crowded_berth(box, house, chance):
+    """Homes and what letters came by, as many at a house as ties lead out, by a told chance."""
+    came = tuple(chance.sample(box.tied(house), len(box.tied(house))))
+    homes = tuple(chance.choice([home for home in range(box.net().many()) if home != house
+                                 and box.phase(house, home) >= box.way(house, other)]) for other in came)
+    return homes, came
+
+
+def tree_log():
+    """A tree, homes, stands and a log by elder, through which letters are led about one by another.
+
+    At beat 0 the letter 2 is led about by 1, at beat 1 that one by 0, at beat 3 the letter 2 by 1 again.
+    """
+    tree = pairs_net(7, [(0, 1), (1, 2), (2, 3), (3, 4), (4, 5), (2, 6)])
+    log = [(2, 2, 0), (3, 6, 1), (4, 2, 2), (None, 3, 6), (None, None, 2), (None, None, 3)]
+    stands = [(6, 1, 1), (2, 2, 0), (3, 6, 1), (None, 2, 2), (None, None, 6), (None, None, 2), (None, None, None)]
+    return tree, (4, 3, 3), stands, log

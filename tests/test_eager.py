@@ -2,8 +2,7 @@ import unittest
 
 from neverwait.eager import is_eager, led
 from neverwait.shapes import box_net, pairs_net, ring_net
-from tests.samples import (all_homes, complete_net, handings_of, mixed_net, one_way_ring, small_nets,
-                           stands_of)
+from tests.samples import all_homes, all_stands, complete_net, handings_of, mixed_net, one_way_ring, small_nets
 
 
 class Led(unittest.TestCase):
@@ -87,7 +86,7 @@ class Eager(unittest.TestCase):
         seen = {True: 0, False: 0}
         for net in small_nets():
             for homes in all_homes(net, 2):
-                for stand in stands_of(net, homes):
+                for stand in all_stands(net, homes):
                     for handing in handings_of(net, stand):
                         right = eager_by_the_words(net, homes, stand, handing)
                         self.assertIs(is_eager(net, homes, stand, handing), right)

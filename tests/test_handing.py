@@ -8,8 +8,8 @@ from neverwait.nettexts import net_text
 from neverwait.rules import Elder, Farthest, InTurn, Nearest, Ranked, Turns
 from neverwait.shapes import box_net, ring_net
 from neverwait.stands import wrong
-from tests.samples import (all_homes, all_rules, complete_net, eager_rules, mixed_net, one_way_ring, random_letters,
-                           sample_nets, small_nets, stands_of)
+from tests.samples import (all_homes, all_rules, all_stands, complete_net, eager_rules, mixed_net, one_way_ring,
+                           random_letters, sample_nets, small_nets)
 
 BIG = 10 ** 59
 
@@ -140,7 +140,7 @@ class Promises(unittest.TestCase):
     def test_all_stands_of_small_nets(self):
         for net in small_nets():
             for homes in all_homes(net, 2):
-                for stand in stands_of(net, homes):
+                for stand in all_stands(net, homes):
                     self.check(net, homes, stand, 0)
                     self.check(net, homes, stand, 1)
 

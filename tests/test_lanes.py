@@ -7,7 +7,7 @@ from neverwait.eager import led
 from neverwait.errors import NoBerth
 from neverwait.lanes import berth, is_berthed, lane_hand, reason
 from neverwait.stands import behind, wrong
-from tests.samples import Hostile, all_homes, all_sides, odd_things, random_letters, stands_of
+from tests.samples import Hostile, all_homes, all_sides, all_stands, crowded_berth, odd_things, random_letters
 
 FLAT = Box((3, 3))
 # At house 4, in the middle, the ties 3 and 5 are of way 0, the ties 1 and 7 of way 1.
@@ -69,7 +69,7 @@ class IsBerthed(unittest.TestCase):
             box = Box(sides)
             net = box.net()
             for homes in all_homes(net, 2):
-                for stand in stands_of(net, homes):
+                for stand in all_stands(net, homes):
                     for came in product([None] + list(range(-1, net.many() + 1)), repeat=2):
                         right = berthed_by_the_words(box, homes, stand, came)
                         self.assertIs(is_berthed(box, homes, stand, came), right)
@@ -237,7 +237,7 @@ class Promises(unittest.TestCase):
             box = Box(sides)
             net = box.net()
             for homes in all_homes(net, 2):
-                for stand in stands_of(net, homes):
+                for stand in all_stands(net, homes):
                     choices = [[None] if house is None else net.out(house) for house in stand]
                     for came in product(*choices):
                         if berthed_by_the_words(box, homes, stand, came):
@@ -250,10 +250,7 @@ class Promises(unittest.TestCase):
             box = Box(sides)
             net = box.net()
             for time in range(300):
-                came = tuple(chance.sample(net.out(house), len(net.out(house))))
-                homes = tuple(chance.choice([home for home in range(net.many()) if home != house
-                                             and box.phase(house, home) >= box.way(house, other)])
-                              for other in came)
+                homes, came = crowded_berth(box, house, chance)
                 self.check(box, net, homes, (house,) * len(came), came)
                 seen += 1
         self.assertEqual(seen, 1500)

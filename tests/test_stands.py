@@ -4,8 +4,8 @@ from neverwait.errors import NoHanding
 from neverwait.nets import Net
 from neverwait.shapes import pairs_net, ring_net
 from neverwait.stands import behind, is_stand, under_way, wrong
-from tests.samples import (Hostile, all_homes, all_rows, complete_net, handings_of, mixed_net, odd_things,
-                           one_way_ring, small_nets, stands_of)
+from tests.samples import (Hostile, all_homes, all_rows, all_stands, complete_net, handings_of, mixed_net, odd_things,
+                           one_way_ring, small_nets)
 
 
 class Stands(unittest.TestCase):
@@ -53,7 +53,7 @@ class Stands(unittest.TestCase):
     def test_all_rows_of_small_nets(self):
         for net in small_nets():
             for homes in all_homes(net, 2):
-                right = stands_of(net, homes)
+                right = all_stands(net, homes)
                 for row in all_rows(net, 2):
                     self.assertIs(is_stand(net, homes, row), row in right)
 
@@ -131,7 +131,7 @@ class Wrong(unittest.TestCase):
     def test_all_rows_of_small_nets(self):
         for net in small_nets():
             homes = (0, net.many() - 1)
-            for stand in stands_of(net, homes):
+            for stand in all_stands(net, homes):
                 right = handings_of(net, stand)
                 for row in all_rows(net, 2):
                     self.assertIs(wrong(net, homes, stand, row) is None, row in right)
@@ -165,7 +165,7 @@ class Behind(unittest.TestCase):
     def test_no_letter_is_lost_or_made_and_behind_is_a_stand(self):
         for net in small_nets():
             for homes in all_homes(net, 2):
-                for stand in stands_of(net, homes):
+                for stand in all_stands(net, homes):
                     for handing in handings_of(net, stand):
                         self.check_behind(net, homes, stand, handing)
 
