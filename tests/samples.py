@@ -132,7 +132,8 @@ def random_letters(net, letters, chance):
 
 
 def random_tree(many, chance):
-    return pairs_net(many, [(house, chance.randrange(house)) for house in range(1, many)])
+    # Tied with one of the seven ahead of it, no house comes to have more than eight ties.
+    return pairs_net(many, [(house, chance.randrange(max(0, house - 7), house)) for house in range(1, many)])
 
 
 def stand_behind(homes, handing):
