@@ -12,10 +12,8 @@ def is_chain(homes, stands, log, letter, beat, thing):
         if not is_sent_from(stands, log, one, beat + later, house):
             return False
         house = log[beat + later][one]
-        is_last = later == len(thing) - 1
-        if (house == homes[one]) != is_last:
-            return False
-    return thing[0] != letter
+    # One ahead of the last may come home, too: another one that stands there then goes on.
+    return thing[0] != letter and house == homes[thing[-1]]
 
 
 def is_sent_from(stands, log, letter, beat, house):

@@ -64,6 +64,15 @@ class Blame(unittest.TestCase):
         log = run(Elder(), net, (7, 5, 8), (4, 4, 4), 99)
         self.assertEqual(blame(net, (7, 5, 8), stands_of((7, 5, 8), (4, 4, 4), log), log, 2, 0), [1])
 
+    def test_it_ends_with_the_first_that_comes_home(self):
+        # The letter 0 comes home to 2, where the letter 2 stands then and goes home from; that is a chain, too.
+        net, homes, stand = box_net((5,)), (2, 4, 1), (1, 1, 3)
+        log = run(Elder(), net, homes, stand, 99)
+        self.assertEqual(log[:2], [(2, 0, 2), (None, 1, 1)])
+        stands = stands_of(homes, stand, log)
+        self.assertEqual(blame(net, homes, stands, log, 1, 0), [0])
+        self.assertIs(is_chain(homes, stands, log, 1, 0, [0, 2]), True)
+
     def test_of_nobody(self):
         self.assertIsNone(blame(TREE, (), [(), ()], [()], 0, 0))
 

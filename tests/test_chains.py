@@ -18,6 +18,9 @@ ROW = box_net((3,))
 WAITING = [(1, 0, 0), (2, 1, 0), (None, 2, 1), (None, None, 2)]
 WAITING_STANDS = [(0, 0, 0), (1, 0, 0), (None, 1, 0), (None, None, 1), (None, None, None)]
 
+# Homes, stands and a log along the houses 0 to 4: the letter 0 comes home to 2, where the letter 2 stands then.
+THROUGH = ((2, 0, 1), [(1, 1, 3), (None, None, 2), (None, None, None)], [(2, 0, 2), (None, None, 1)])
+
 
 def chain_of_two(thing):
     """Of the letter 2, at beat 0."""
@@ -61,15 +64,22 @@ class IsChain(unittest.TestCase):
         self.assertIs(chain_of_two([1, 1, 0]), False)
         self.assertIs(chain_of_two([1, 0, 1, 1]), False)
 
-    def test_one_that_goes_home_ahead_of_the_last(self):
-        # The letter 0 comes home to 2, where the letter 2 stands then; that one goes on to its home at 0.
-        homes, log = (2, 4, 0), [(2, 0, 2), (None, 1, 1), (None, 2, 0)]
-        stands = stands_of(homes, (1, 1, 3), log)
-        self.assertEqual(stands[1], (None, 0, 2))
-        self.assertIs(is_chain(homes, stands, log, 1, 0, [0]), True)
-        self.assertIs(is_chain(homes, stands, log, 1, 0, [0, 2, 2]), False)
-        self.assertIs(is_chain(homes, stands, log, 1, 0, [0, 0]), False)
-        self.assertIs(is_chain(homes, stands, log, 1, 0, [0, 0, 2]), False)
+    def test_one_ahead_of_the_last_may_come_home(self):
+        self.assertIs(is_chain(*THROUGH, 1, 0, [0]), True)
+        self.assertIs(is_chain(*THROUGH, 1, 0, [0, 2]), True)
+
+    def test_one_that_is_home_is_not_handed_on_from_there(self):
+        for thing in ([0, 0], [0, 0, 2], [0, 2, 2], [0, 2, 0], [0, 1], [0, 1, 2]):
+            self.assertIs(is_chain(*THROUGH, 1, 0, thing), False)
+
+    def test_through_several_homes(self):
+        # The letter 2 comes home to 1, where the letter 3 is let in then.
+        homes = (2, 0, 1, 0)
+        log = [(2, 0, 2, None), (None, None, 1, None), (None, None, None, 0)]
+        stands = [(1, 1, 3, None), (None, None, 2, None), (None, None, None, 1), (None, None, None, None)]
+        for thing, right in (([0], True), ([0, 2], True), ([0, 2, 3], True), ([0, 3], False), ([0, 2, 2], False),
+                             ([0, 2, 0], False), ([0, 2, 3, 3], False), ([2, 3], False), ([3], False)):
+            self.assertIs(is_chain(homes, stands, log, 1, 0, thing), right)
 
     def test_a_last_one_that_does_not_come_home(self):
         self.assertIs(chain_of_two([1]), False)
@@ -192,6 +202,16 @@ class IsStraight(unittest.TestCase):
         self.assertIs(is_chain((3, 3), stands, log, 1, 0, [0, 0, 0, 0]), True)
         self.assertIs(is_straight(box_net((4,)), (3, 3), stands, log, 1, 0, [0, 0, 0, 0]), False)
 
+    def test_through_a_home(self):
+        # The letter 1 goes to 0: along the row of houses it is one tie from there to 1, where the chain ends.
+        self.assertIs(is_straight(box_net((5,)), *THROUGH, 1, 0, [0, 2]), False)
+        # Let in at 2, the letter 2 goes home to 3 instead, which is three ties from 0.
+        stands, log = [(1, 1, None), (None, None, 2), (None, None, None)], [(2, 0, None), (None, None, 3)]
+        self.assertIs(is_chain((2, 0, 3), stands, log, 1, 0, [0, 2]), True)
+        self.assertIs(is_straight(box_net((5,)), (2, 0, 3), stands, log, 1, 0, [0, 2]), True)
+        # On a ring of four it is one tie.
+        self.assertIs(is_straight(ring_net(4), (2, 0, 3), stands, log, 1, 0, [0, 2]), False)
+
     def test_what_is_no_chain_is_not_straight(self):
         for thing in ([], [1], [2, 2], [-2, -3, -3], [1, 0, 3]):
             self.assertIs(is_straight(TREE, HOMES, STANDS, LOG, 2, 0, thing), False)
@@ -242,7 +262,7 @@ def chains_by_the_words(homes, stands, log, letter, beat):
         goes = log[at][going[-1]]
         if goes == homes[going[-1]]:
             found.add(going)
-        elif goes != stands[at][going[-1]]:
+        if goes != stands[at][going[-1]]:
             begun += [going + (other,) for other in range(len(homes)) if stands[at + 1][other] == goes]
     return found
 
