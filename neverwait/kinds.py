@@ -19,6 +19,11 @@ def is_house(many, thing):
     return is_whole_within(thing, 0, many - 1)
 
 
+def are_unlike_houses(many, one, other):
+    """True of two unlike ones of so many houses."""
+    return is_house(many, one) and is_house(many, other) and one != other
+
+
 def is_row(thing, length):
     """True of a tuple with so many things."""
     return isinstance(thing, tuple) and len(thing) == length

@@ -1,7 +1,7 @@
 """Nets: houses, and ties that lead from one to another."""
 
 from neverwait.errors import NoHouse, NoNet
-from neverwait.kinds import is_house, is_row, is_whole_within
+from neverwait.kinds import are_unlike_houses, is_house, is_row, is_whole_within
 
 FEWEST_HOUSES = 2
 MOST_HOUSES = 32
@@ -73,10 +73,7 @@ def check_ties(many, ties):
 
 def is_tie(many, thing):
     """True of a tuple of two unlike ones of so many houses."""
-    if not is_row(thing, 2):
-        return False
-    one, other = thing
-    return is_house(many, one) and is_house(many, other) and one != other
+    return is_row(thing, 2) and are_unlike_houses(many, thing[0], thing[1])
 
 
 def check_balance(many, ties):

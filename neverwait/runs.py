@@ -9,11 +9,15 @@ def run(rule, net, homes, stand, most):
     """The log of a run by a rule, of at most so many handings."""
     # Ranks are refused also where nothing is handed on.
     rule.check_letters(homes)
+    return log_by(homes, stand, most, lambda here, beat: hand(rule, net, homes, here, beat))
+
+
+def log_by(homes, stand, most, handed):
+    """The log until all are home, of at most so many handings; handed tells what is done with a stand at a beat."""
     log = []
     while len(log) < most and under_way(stand):
-        handing = hand(rule, net, homes, stand, len(log))
-        log.append(handing)
-        stand = stand_behind(homes, handing)
+        log.append(handed(stand, len(log)))
+        stand = stand_behind(homes, log[-1])
     return log
 
 

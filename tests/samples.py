@@ -174,6 +174,17 @@ def waiting_log(box, homes, stand):
     return stands, log
 
 
+def random_plan(net, letters, chance):
+    """A plan of so many letters, by a told chance; many of them begin at a few houses."""
+    starts = chance.sample(range(net.many()), chance.randint(1, min(net.many(), 3)))
+    plan, beat = [], 0
+    for at in range(letters):
+        beat += chance.choice((0, 0, 0, 1, 2, 9))
+        start = chance.choice(starts)
+        plan.append((beat, start, chance.choice([home for home in range(net.many()) if home != start])))
+    return plan
+
+
 def crowded_letters(net, letters, chance):
     """Homes and a stand of letters all under way, any number of them at a house."""
     aims = chance.sample(range(net.many()), chance.randint(1, net.many()))

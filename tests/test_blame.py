@@ -7,13 +7,15 @@ from neverwait.boxes import Box
 from neverwait.chains import is_chain, is_straight
 from neverwait.errors import NoBerth
 from neverwait.lanes import berth, is_berthed, lane_hand, reason
+from neverwait.letting import let_in_lanes, let_in_run
 from neverwait.logs import home_at, led_at, stands_of, waited_at
+from neverwait.measures import others
 from neverwait.nets import is_plain_ring, is_tree
 from neverwait.rules import Elder, Nearest
 from neverwait.runs import lane_run, run
 from neverwait.shapes import box_net, ring_net
-from tests.samples import (crowded_berth, crowded_letters, eager_rules, let_in_log, random_letters, random_tree,
-                           sample_nets, stand_behind, tree_log, waiting_log)
+from tests.samples import (crowded_berth, crowded_letters, eager_rules, let_in_log, random_letters, random_plan,
+                           random_tree, sample_nets, stand_behind, tree_log, waiting_log)
 
 TREE, HOMES, STANDS, LOG = tree_log()
 
@@ -133,8 +135,11 @@ class ByWords(unittest.TestCase):
 class StraightChains(unittest.TestCase):
     """What point 3 tells of trees, plain rings, boxes by lanes, boxes where letters may wait."""
 
-    def check(self, net, homes, stands, log, letter, beats, tell):
-        """At each of the beats there is a straight chain; their last letters are unlike, none is the letter itself."""
+    def check(self, net, homes, stands, log, letter, beats, tell, each=2):
+        """At each of the beats there is a straight chain; their last letters are unlike, none is the letter itself.
+
+        So it is home within its distance and each so many beats for each other that comes home.
+        """
         ends = []
         for beat in range(-2, len(log) + 2):
             chain = tell(letter, beat)
@@ -149,9 +154,12 @@ class StraightChains(unittest.TestCase):
                 self.assertIsNone(chain)
         self.assertEqual(len(set(ends)), len(ends))
         self.assertNotIn(letter, ends)
-        others = [other for other in range(len(homes)) if other != letter
-                  and home_at(homes, stands, log, other) is not None]
-        self.assertLessEqual(len(beats), len(others))
+        arrived = others(homes, stands, log, letter)
+        self.assertLessEqual(len(beats), arrived)
+        first = [beat for beat in range(len(log)) if stands[beat][letter] is not None][:1]
+        for beat in first:
+            far = net.far(stands[beat][letter], homes[letter])
+            self.assertLessEqual(home_at(homes, stands, log, letter) - beat, far + each * arrived)
         self.found += len(beats)
 
     def setUp(self):
@@ -195,6 +203,15 @@ class StraightChains(unittest.TestCase):
                 self.check_rule(net, homes, stands, log)
         self.assertGreater(self.found, 50)
 
+    def test_on_trees_and_rings_by_a_plan(self):
+        chance = Random(36)
+        for time in range(60):
+            for net, rule in ((random_tree(8, chance), chance.choice(eager_rules(9))), (ring_net(6), Nearest())):
+                plan = random_plan(net, 9, chance)
+                entries, log, stands = let_in_run(rule, net, plan, 500)
+                self.check_rule(net, tuple(home for beat, start, home in plan), stands, log)
+        self.assertGreater(self.found, 50)
+
     def check_lanes(self, box, homes, stands, cames, log):
         net = box.net()
         for letter in range(len(homes)):
@@ -233,6 +250,15 @@ class StraightChains(unittest.TestCase):
         self.assertGreater(self.found, 50)
         self.assertGreater(self.mixed, 5)
 
+    def test_in_boxes_by_lanes_by_a_plan(self):
+        chance = Random(37)
+        for sides in BOXES * 6:
+            box = Box(sides)
+            plan = random_plan(box.net(), 16, chance)
+            entries, log, stands, cames = let_in_lanes(box, plan, 500)
+            self.check_lanes(box, tuple(home for beat, start, home in plan), stands, cames, log)
+        self.assertGreater(self.found, 50)
+
     def test_in_boxes_where_letters_wait(self):
         chance = Random(34)
         for sides in BOXES * 6:
@@ -241,7 +267,7 @@ class StraightChains(unittest.TestCase):
             stands, log = waiting_log(box, homes, stand)
             for letter in range(16):
                 self.check(box.net(), homes, stands, log, letter, waited_at(stands, log, letter),
-                           lambda one, beat: wait_blame(box, homes, stands, log, one, beat))
+                           lambda one, beat: wait_blame(box, homes, stands, log, one, beat), each=1)
         self.assertGreater(self.found, 300)
         self.assertGreater(self.mixed, 10)
 

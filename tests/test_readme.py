@@ -15,12 +15,12 @@ class Readme(unittest.TestCase):
         checked = 0
         for line in code.splitlines():
             asked, sign, told = line.partition("  # ")
-            if line and ("import" in line or re.match(r"\w+ = ", line)):
+            if line and ("import" in line or re.match(r"[\w, ]+ = ", line)):
                 exec(line, names)
             elif line:
                 self.assertEqual(repr(eval(asked, names)), told, line)
                 checked += 1
-        self.assertEqual(checked, 23)
+        self.assertEqual(checked, 31)
 
 
 if __name__ == "__main__":
