@@ -20,7 +20,7 @@ class Readme(unittest.TestCase):
             elif line:
                 self.assertEqual(repr(eval(asked, names)), told, line)
                 checked += 1
-        self.assertEqual(checked, 31)
+        self.assertEqual(checked, 43)
 
 
 if __name__ == "__main__":
