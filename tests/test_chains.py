@@ -9,7 +9,8 @@ from neverwait.nets import Net
 from neverwait.rules import Elder
 from neverwait.runs import run
 from neverwait.shapes import box_net, ring_net
-from tests.samples import crowded_letters, eager_rules, mixed_net, odd_things, random_letters, tree_log, waiting_log
+from tests.samples import (complete_net, crowded_letters, eager_rules, mixed_net, odd_things, random_letters, tree_log,
+                           waiting_log)
 
 TREE, HOMES, STANDS, LOG = tree_log()
 
@@ -230,6 +231,24 @@ class IsStraight(unittest.TestCase):
             stands, log = waiting_log(Box(sides), homes, stand)
             self.check(box_net(sides), homes, stands, log, told)
         self.assertGreater(min(told.values()), 50)
+
+    def test_straight_chains_of_one_letter_end_with_unlike_letters(self):
+        chance = Random(38)
+        several = 0
+        for net in (ring_net(4), ring_net(5), box_net((3, 2)), complete_net(4), mixed_net()) * 40:
+            homes, stand = random_letters(net, 6, chance)
+            log = run(chance.choice(eager_rules(6)), net, homes, stand, 7)
+            stands = stands_of(homes, stand, log)
+            for letter in range(6):
+                ends = []
+                for beat in range(len(log)):
+                    chains = chains_by_the_words(homes, stands, log, letter, beat)
+                    ends.append({chain[-1] for chain in chains
+                                 if is_straight(net, homes, stands, log, letter, beat, list(chain))})
+                several += len([end for end in ends if end]) > 1
+                self.assertEqual(sum(len(end) for end in ends), len(set().union(*ends)))
+                self.assertNotIn(letter, set().union(*ends))
+        self.assertGreater(several, 20)
 
     def check(self, net, homes, stands, log, told):
         for letter in range(4):

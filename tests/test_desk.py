@@ -51,8 +51,8 @@ WRONG_TEXTS = ["net", "net ", "net 2", "net 1", "net  2 0-1", "net 2 0-1 ", "net
 
 WRONG_SHAPES = ["box 1", "box 9", "box 0", "box 2 1", "box 6 6", "box 2 2 2 2 2 2", "box 2 9", "ring 0", "ring 1",
                 "ring 2", "ring 33", "words 0 2", "words 6 2", "words 1 1", "words 1 6", "words 3 4", "words 2 0",
-                "box " + "9" * 60, "ring " + "9" * 60, "words 1 " + "9" * 60, "words " + "9" * 60 + " 2", "box 2 2 2 2 2 2 2 2 2 2 2",
-                "ring " + "9" * 5000]
+                "box " + "9" * 60, "ring " + "9" * 60, "words 1 " + "9" * 60, "words " + "9" * 60 + " 2",
+                "box 2 2 2 2 2 2 2 2 2 2 2", "ring " + "9" * 5000]
 
 
 def desk_of(*rows):
